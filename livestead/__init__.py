@@ -1,0 +1,1 @@
+"""Livestead: a living image of objects, its language, machine and tools."""
