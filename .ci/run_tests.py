@@ -12,7 +12,7 @@ import unittest
 ROOT = pathlib.Path(__file__).resolve().parent.parent
 SHARED = ROOT.parent / "shared" / "tests"
 POINTS = ("errors", "tokens", "expressions", "statements", "depth", "limits", "positions",
-          "names_twice")
+          "names_twice", "values", "printing", "round_trips", "names", "codes", "blocks", "heights")
 
 
 def run(folder, pattern, top):

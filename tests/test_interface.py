@@ -3,10 +3,16 @@
 import inspect
 import unittest
 
-from livestead import reading, tokens
+from livestead import codes, names, printing, reading, tokens, values
+from livestead.codes import compile_method, heights
 from livestead.errors import LivesteadError, NameTwice, SourceError
+from livestead.names import place_of
+from livestead.printing import print_expression, print_method
 from livestead.reading import read_expression, read_method
 from livestead.tokens import tokenize
+from livestead.values import operate
+
+METHOD = ("method", "f", (), (), ())
 
 
 class Interface(unittest.TestCase):
@@ -17,10 +23,33 @@ class Interface(unittest.TestCase):
         self.assertEqual(read_expression(text="a"), ("name", "a"))
         self.assertEqual(read_method(text="method f() end"), ("method", "f", (), (), ()))
 
+    def test_arguments_of_printing(self):
+        for function in (print_method, print_expression):
+            self.assertEqual(str(inspect.signature(function)), "(tree)")
+        self.assertEqual(print_method(tree=METHOD), "method f() end")
+        self.assertEqual(print_expression(tree=("self",)), "self")
+
+    def test_arguments_of_codes(self):
+        self.assertEqual(str(inspect.signature(compile_method)),
+                         "(tree, *, owner='Thing', slots=())")
+        code = compile_method(tree=METHOD, slots=("a",), owner="Foo")
+        self.assertEqual(code, ("code", 0, (("push", None), ("end",)), ()))
+        self.assertEqual(str(inspect.signature(heights)), "(code)")
+        self.assertEqual(heights(code=code), [0, 1])
+
+    def test_arguments_of_names_and_values(self):
+        self.assertEqual(str(inspect.signature(place_of)), "(name, scopes, slots)")
+        self.assertEqual(place_of(name="a", scopes=[()], slots=("a",)), ("slot", "a"))
+        self.assertEqual(str(inspect.signature(operate)), "(sign, left, right)")
+        self.assertEqual(operate(sign="-", left=1, right=2), ("value", -1))
+
     def test_each_function_is_defined_in_its_file(self):
-        self.assertEqual(tokens.tokenize.__module__, "livestead.tokens")
-        self.assertEqual(reading.read_method.__module__, "livestead.reading")
-        self.assertEqual(reading.read_expression.__module__, "livestead.reading")
+        rows = ((tokens, ("tokenize",)), (reading, ("read_method", "read_expression")),
+                (printing, ("print_method", "print_expression")), (names, ("place_of",)),
+                (codes, ("compile_method", "heights")), (values, ("operate",)))
+        for module, functions in rows:
+            for function in functions:
+                self.assertEqual(getattr(module, function).__module__, module.__name__)
 
     def test_one_call_leaves_nothing_to_the_next(self):
         for _ in range(3):
