@@ -12,7 +12,9 @@ import unittest
 ROOT = pathlib.Path(__file__).resolve().parent.parent
 SHARED = ROOT.parent / "shared" / "tests"
 POINTS = ("errors", "tokens", "expressions", "statements", "depth", "limits", "positions",
-          "names_twice", "values", "printing", "round_trips", "names", "codes", "blocks", "heights")
+          "names_twice", "values", "printing", "round_trips", "names", "codes", "blocks", "heights",
+          "optimizer", "images", "calls", "steps", "failures", "marks", "memory", "changes",
+          "journal", "collector", "portions", "files", "data", "sameness")
 
 
 def run(folder, pattern, top):

@@ -1,10 +1,7 @@
-"""What the signs between two values come to."""
+"""What the signs between two values, and those ahead of one, come to."""
 
+from livestead.failures import BY_NOTHING, NOT_A_TRUTH, TOO_LARGE, WRONG_KIND
 from livestead.tokens import GREATEST_NUMBER, LONGEST_TEXT
-
-WRONG_KIND = "wrong kind"
-BY_NOTHING = "by nothing"
-TOO_LARGE = "too large"
 
 
 def operate(sign, left, right):
@@ -18,13 +15,36 @@ def operate(sign, left, right):
     return ("failure", WRONG_KIND)
 
 
+def change_sign(value):
+    """What the minus ahead of a value makes of it, told as operate does."""
+    if _is_number(value):
+        return ("value", -value)
+    return ("failure", WRONG_KIND)
+
+
+def turn_round(value):
+    """What `not` makes of a value, told as operate does."""
+    if is_truth(value):
+        return ("value", not value)
+    return ("failure", NOT_A_TRUTH)
+
+
+def is_truth(value):
+    return isinstance(value, bool)
+
+
+def is_object(value):
+    """Whether a value is an object: all others are plain values."""
+    return isinstance(value, tuple)
+
+
 def _are_equal(left, right):
     # Python itself takes 1 for True, and 0 for False.
-    return isinstance(left, bool) == isinstance(right, bool) and left == right
+    return is_truth(left) == is_truth(right) and left == right
 
 
 def _is_number(value):
-    return isinstance(value, int) and not isinstance(value, bool)
+    return isinstance(value, int) and not is_truth(value)
 
 
 def _with_numbers(sign, left, right):

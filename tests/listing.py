@@ -26,7 +26,7 @@ def listed(text):
 def row_of(words, marks):
     parts = [words[0]]
     for word in words[1:]:
-        parts.append(int(word) if word.isdigit() else marks.get(word, word))
+        parts.append(int(word) if word.lstrip("-").isdigit() else marks.get(word, word))
     if parts[0] == "set":
         return ("set", tuple(parts[1:]))
     return tuple(parts)

@@ -3,6 +3,7 @@
 import unittest
 
 from livestead.codes import compile_method, heights
+from livestead.optimizing import optimize
 from livestead.reading import read_method
 from tests.listing import NONE, listed
 from tests.trees import methods
@@ -200,6 +201,20 @@ class WellFormed(HeightsCase):
                 codes += 1
                 self.well_formed(code)
         self.assertGreater(codes, 1000)
+
+    def test_optimized_codes(self):
+        shorter = 0
+        for tree in methods(40):
+            plain = all_codes(compile_method(tree, owner="Foo", slots=("slot", "x")))
+            optimized = all_codes(optimize(plain[0]))
+            self.assertEqual(len(optimized), len(plain))
+            for before, after in zip(plain, optimized):
+                shorter += len(after[2]) < len(before[2])
+                self.well_formed(after)
+                self.assertNotIn(None, heights(after))
+                self.assertLessEqual(len(after[2]), len(before[2]))
+                self.assertEqual(after[1], before[1])
+        self.assertGreater(shorter, 100)
 
     def test_jumps_lead_to_instructions(self):
         for tree in methods(20):

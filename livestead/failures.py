@@ -1,0 +1,13 @@
+"""The values of the failures that are made while a body is carried out."""
+
+NOT_A_TRUTH = "not a truth"
+WRONG_KIND = "wrong kind"
+BY_NOTHING = "by nothing"
+TOO_LARGE = "too large"
+NO_GLOBAL = "no global"
+NO_SLOT = "no slot"
+NO_CLASS = "no class"
+NOT_UNDERSTOOD = "not understood"
+NO_MEMORY = "memory"
+TOO_DEEP = "too deep"
+TOO_LATE = "given too late"
