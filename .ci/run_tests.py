@@ -14,7 +14,8 @@ SHARED = ROOT.parent / "shared" / "tests"
 POINTS = ("errors", "tokens", "expressions", "statements", "depth", "limits", "positions",
           "names_twice", "values", "printing", "round_trips", "names", "codes", "blocks", "heights",
           "optimizer", "images", "calls", "steps", "failures", "marks", "memory", "changes",
-          "journal", "collector", "portions", "files", "data", "sameness")
+          "journal", "collector", "portions", "files", "data", "trips", "finding", "merging", "meaning",
+          "outcomes", "counting", "meant_images", "sameness", "interface", "errors", "rules", "readme")
 
 
 def run(folder, pattern, top):

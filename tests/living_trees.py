@@ -142,6 +142,11 @@ class Writer:
 
 def reached(image):
     """What a task came to and left in the objects that can be reached, whatever their numbers are."""
+    return reached_by(image.state(), image)
+
+
+def reached_by(outcome, image):
+    """The same for an outcome of a body that an image does not know of."""
     numbers = {}
 
     def shown(value):
@@ -149,7 +154,7 @@ def reached(image):
             return ("object", numbers.setdefault(value[1], len(numbers)))
         return value
 
-    found = [image.state()[0]] + [shown(value) for value in image.state()[1:]]
+    found = [outcome[0]] + [shown(value) for value in outcome[1:]]
     found.extend((name, shown(value)) for name, value in sorted(image.global_values().items()))
     told = []
     while len(told) < len(numbers):

@@ -5,8 +5,10 @@ import unittest
 from livestead.errors import ChangeRefused
 from livestead.files import load, save
 from livestead.images import Image
-from tests.living import LivingCase, begun, made, state_of, stepped
-from tests.living_trees import Writer, reached
+from livestead.meaning import mean
+from livestead.trips import Trip
+from tests.living import PLENTY, LivingCase, begun, made, state_of, stepped
+from tests.living_trees import Writer, reached, reached_by
 
 MOST_STEPS = 300
 
@@ -35,6 +37,24 @@ def changed(image, turn):
     return image
 
 
+def travelled(image, turn):
+    """Forward and back again to where it was, on several ways."""
+    trip = Trip(image)
+    for number in (turn % 5, 1, turn % 7):
+        trip.going(number)
+        trip.back(turn % 3)
+    trip.going(9)
+    trip.back(trip.steps())
+    return trip.here()
+
+
+def mixed(image, turn):
+    """All of these ways, one after the other."""
+    for way in (loaded, collected, travelled, changed)[turn % 4:]:
+        image = way(image, turn)
+    return image
+
+
 def looked(image, _turn):
     """Nothing that is asked for changes anything."""
     for number in image.objects():
@@ -45,6 +65,7 @@ def looked(image, _turn):
             image.text_of(name, selector)
     image.global_values().clear()
     image.changes().clear()
+    mean(image, "method f() var n; n := 0; while n < 70 do a := new A; b := {a}; n := n + 1 end end", 300)
     save(image)
     image.advance(0)
     return image
@@ -95,6 +116,37 @@ class Ways(LivingCase):
     def test_changes_made_and_undone(self):
         self.ways(50, changed)
 
+    def test_gone_back_and_forward(self):
+        self.ways(15, travelled)
+
+    def test_all_ways_together(self):
+        self.ways(15, mixed)
+
+    def test_what_the_text_means(self):
+        good = 0
+        for seed, file, text, image in self.made_tasks(120):
+            given = load(file)
+            outcome, after = mean(given, text, PLENTY)
+            self.assertEqual(reached_by(outcome, after), reached(image), (seed, text))
+            self.assertEqual(save(given), file)
+            good += 1
+        self.assertGreater(good, 60)
+
+    def test_what_the_text_means_in_the_middle_of_a_task(self):
+        for seed, file, text, _ in self.made_tasks(20):
+            given = load(file)
+            given.start(text)
+            given.advance(5 + seed % 9)
+            alone, other = load(save(given)), Writer(500 + seed).method("run", 0, 7)
+            outcome, after = mean(given, other, 1000)
+            self.assertEqual(save(given), save(alone))
+            alone.advance(PLENTY)
+            given.advance(PLENTY)
+            self.assertEqual(save(given), save(alone))
+            if after is not None:
+                self.assertEqual(after.state(), ("none",))
+                self.assertEqual(reached_by(outcome, load(save(after))), reached_by(outcome, after))
+
     def test_asked_for_all_that_can_be_told(self):
         self.ways(10, looked)
 
@@ -103,6 +155,7 @@ class Ways(LivingCase):
             writer = Writer(1000 + seed)
             images = [load(save(writer.image()))]
             images.append(load(save(images[0])))
+            meant = load(save(images[0]))
             for turn in range(3):
                 text = writer.method("run", 0, 7)
                 images[0] = self.gone(images[0], text, False, 100)
@@ -110,6 +163,8 @@ class Ways(LivingCase):
                 if None in images or len(images[0].objects()) > 40:
                     break
                 self.assertEqual(reached(images[0]), reached(images[1]), (seed, text))
+                outcome, meant = mean(meant, text, PLENTY)
+                self.assertEqual(reached_by(outcome, meant), reached(images[0]), (seed, text))
 
 
 class Fewer(LivingCase):
