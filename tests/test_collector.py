@@ -141,6 +141,21 @@ class Frames(CollectorCase):
         image = self.until(begun(made(*ROWS), "keep fail new A always {1; 2; 3}.call() end"), 2, 2)
         self.left(image, 1, [1])
 
+    def test_what_was_taken_from_the_stack_when_a_mark_was_reached(self):
+        for body, steps in (("try new A = 1 / 0 catch e then 1; 2 end", 5),
+                            ("keep new A = 1 / 0 always 1; 2 end", 5),
+                            ("try new A = {1 / 0}.call() catch e then 1; 2 end", 7),
+                            ("keep new A = {give 5}.call() always 1; 2 end", 6)):
+            image = begun(made(*ROWS), body)
+            image.advance(steps - 1)
+            self.assertIn(1, image.objects())
+            image.collect()
+            self.assertIn(1, image.objects())
+            image.advance(1)
+            self.same(image.state(), ("running",))
+            image.collect()
+            self.same(image.objects(), [], body)
+
     def test_notes_within_notes(self):
         image = begun(made(*ROWS), "keep fail new A always keep give new A always 1; 2 end end")
         image.advance(7)

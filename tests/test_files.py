@@ -66,7 +66,7 @@ class Form(FilesCase):
     def test_no_file(self):
         for text in ("", "\n", "\n\n", "N", "N\n", "N\n109", "N\n109\n\n", "\nN\n109\n", "N\n\n109\n",
                      "N\n0109\n", "N\n00\n", "N\n-109\n", "N\n+109\n", "N\n 109\n", "N\n109 \n", "N\n10a9\n",
-                     "N\r\n109\r\n", "N\n\u0661\n", "N\n\u00b2\n", "a\nb\nc\n", "109\nN\n"):
+                     "N\r\n109\r\n", "N\n109\nN", "N\n109\n ", "N\n109\n109", "N\n\u0661\n", "N\n\u00b2\n", "a\nb\nc\n", "109\nN\n"):
             self.refuses(text, 0)
 
     def test_a_wrong_sum(self):

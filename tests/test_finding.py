@@ -327,6 +327,13 @@ class Texts(LivingCase):
                      "method f() var m; m := 'm'; self.n(1); super.n(2) end")
         self.renamed("method f() {m | {m.m(a.m(1))}} end", "method f() {m | {m.n(a.n(1))}} end")
 
+    def test_names_like_the_kinds_of_trees(self):
+        self.renamed("method f() {send, a, m, x | m.m(a)} end", "method f() {send, a, m, x | m.n(a)} end")
+        self.renamed("method f() {send, m, x | } end", "method f() {send, m, x | } end")
+        self.renamed("method f() {block, send, m | m.m(1)} end", "method f() {block, send, m | m.n(1)} end")
+        self.renamed("method f(send, block, m, n) var name, set; block.send(name, set.m(1)) end",
+                     "method f(send, block, m, n) var name, set; block.send(name, set.n(1)) end")
+
     def test_with_as_many_arguments(self):
         self.renamed("method f() a.m(); a.m(1); a.m(1, 2) end", "method f() a.m(); a.n(1); a.m(1, 2) end")
         self.renamed("method f() a.m(); a.m(1); a.m(1, 2) end", "method f() a.n(); a.m(1); a.m(1, 2) end", 0)

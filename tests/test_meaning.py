@@ -48,6 +48,11 @@ class Plain(MeaningCase):
         self.gives("var a; a := 1; {a | a := 5}.call(2); give a", 1)
         self.gives("var a; a := 1; {b | a := b}.call(2); give a", 2)
 
+    def test_names_like_the_kinds_of_trees(self):
+        self.gives("give {name, block, set | name + block.call(set)}.call(1, {send | send * 10}, 2)", 21)
+        self.gives("var name, set, plain; name := 1; set := 2; plain := name + set; give {plain}.call()", 3)
+        self.gives("var block; try fail 5 catch block then end; give {block | {block}}.call(block).call()", 5)
+
     def test_global_names(self):
         self.fails("give a", "no global")
         self.fails("a", "no global")

@@ -233,6 +233,13 @@ class Statements(unittest.TestCase):
         for file, node in nodes(ast.ExceptHandler):
             self.assertIn(node.type.id, errors, file)
 
+    def test_finally_only_assigns(self):
+        for file, node in nodes(ast.Try):
+            for part in node.finalbody:
+                self.assertIsInstance(part, ast.Assign, (file, part.lineno))
+                self.assertIsInstance(part.targets[0], (ast.Name, ast.Attribute), (file, part.lineno))
+                self.assertIsInstance(part.value, (ast.Name, ast.Attribute, ast.Constant), (file, part.lineno))
+
     def test_errors_are_created_on_the_spot(self):
         for file, node in nodes(ast.Raise):
             if node.exc is not None:
